@@ -1,0 +1,1 @@
+"""Sharing what a group gains, where joiners bring more to more."""

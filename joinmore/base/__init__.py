@@ -1,0 +1,1 @@
+"""Names, games and their tests."""

@@ -1,0 +1,57 @@
+"""The interface: its names, where they are defined, and their parameters."""
+
+import importlib
+import inspect
+import unittest
+
+from tests.cases import PAIRS
+
+FUNCTIONS = {
+    "joinmore.base.names": {"is_integer": "value", "is_name": "value"},
+}
+CLASSES = {
+    "joinmore.errors": {
+        "MoreError": {}, "InvalidName": {}, "InvalidGame": {}, "InvalidSharing": {}, "InvalidWeights": {},
+        "InvalidOperation": {}, "ParseError": {"__init__": "index"}, "InvalidNumber": {"__init__": "value"},
+        "UnknownName": {"__init__": "name"}, "TooMany": {"__init__": "limit"}, "NothingToUndo": {"__init__": "many"},
+        "NotGrowing": {"__init__": "test"}, "Left": {"__init__": "group"},
+    },
+    "joinmore.base.games": {
+        "Game": {
+            "__init__": "people worths", "with_worth": "group worth", "only": "group", "renamed": "names", "turned": "",
+            "beside": "other", "__add__": None, "__mul__": None, "__getitem__": None, "__contains__": None,
+            "__len__": "", "__eq__": None, "__str__": "", "__iter__": "",
+        },
+    },
+}
+
+
+class Interface(unittest.TestCase):
+    def test_functions(self):
+        for place, functions in FUNCTIONS.items():
+            for name, parameters in functions.items():
+                function = getattr(importlib.import_module(place), name)
+                self.assertTrue(inspect.isfunction(function), name)
+                self.assertEqual(function.__module__, place, name)
+                self.assertEqual(list(inspect.signature(function).parameters), parameters.split(), name)
+
+    def test_classes(self):
+        for place, classes in CLASSES.items():
+            for name, methods in classes.items():
+                told = getattr(importlib.import_module(place), name)
+                self.assertTrue(inspect.isclass(told), name)
+                self.assertEqual(told.__module__, place, name)
+                for method, parameters in methods.items():
+                    self.assertIn(method, vars(told), name)
+                    found = list(inspect.signature(vars(told)[method]).parameters)[1:]
+                    if parameters is not None:
+                        self.assertEqual(found, parameters.split(), (name, method))
+
+    def test_additive_is_a_class_method(self):
+        told = vars(PAIRS.__class__)["additive"]
+        self.assertIsInstance(told, classmethod)
+        self.assertEqual(list(inspect.signature(PAIRS.__class__.additive).parameters), ["people", "amounts"])
+
+
+if __name__ == "__main__":
+    unittest.main()
