@@ -96,3 +96,68 @@ def same(one, other):
     if isinstance(one, dict):
         return same(list(one.items()), list(other.items()))
     return one == other
+
+
+def no_games():
+    """Values that are no game."""
+    return [value for value in strange() if not isinstance(value, Game)] + [PAIRS.people, [PAIRS], (PAIRS,), {"a": PAIRS}]
+
+
+def no_groups(people):
+    """Values that are no group of the persons, although some are near to one."""
+    groups = all_groups(people)
+    near = [list(people), people[0], people + ("zz",), people[:1] * 2, (people,), {person: 1 for person in people}, ""]
+    near += [people[::-1]] if len(people) > 1 else []
+    return [value for value in strange() if value not in groups] + near
+
+
+def all_orders(people):
+    """All orders of some persons, ascending."""
+    if not people:
+        return [()]
+    found = []
+    for person in people:
+        rest = tuple(other for other in people if other != person)
+        found += [(person,) + order for order in all_orders(rest)]
+    return found
+
+
+def walked(game, order):
+    """The pay of an order, by a walk from nobody to all."""
+    ahead, told = [], {}
+    for person in order:
+        before = game[tuple(sorted(ahead))]
+        ahead.append(person)
+        told[person] = game[tuple(sorted(ahead))] - before
+    return tuple(told[person] for person in sorted(told))
+
+
+def no_orders(people):
+    """Values that are no order of the persons, although some are near to one."""
+    near = [people[1:], people + people[:1], people[:-1] + ("zz",), list(people), people[:1] * len(people + ("a",)), (people,)]
+    near += [people[:-1] + people[:1], people[:-1] + (1,), people[:-1] + (None,)] if len(people) > 1 else []
+    near += ["".join(people), {person: 1 for person in people}, people[:-1] + (list(people[-1]),)]
+    return [value for value in strange() if value not in all_orders(people)] + near
+
+
+def sharing_of(game, seed=0):
+    """Some sharing of the game."""
+    head = tuple((seed * (at + 2)) % 9 - 4 for at in range(len(game) - 1))
+    return head + (game[game.people] - sum(head),)
+
+
+def no_sharings(game):
+    """Values that are no sharing of the game, although some are near to one."""
+    right = sharing_of(game, 3)
+    near = [
+        right[:-1] + (right[-1] + 1,), right[:-1] + (right[-1] - 1,), right[1:], right + (0,), (0,) + right, list(right),
+        right[:-1] + (str(right[-1]),), right[:-1] + (None,), (right,), dict(enumerate(right)), right[:-1] + ((right[-1],),),
+        right[:-1] + ([right[-1]],),
+    ]
+    if len(right) > 1:
+        # These sum to the worth of all, but their integers are too long, or none.
+        near.append((10 ** 60, game[game.people] - 10 ** 60) + (0,) * (len(right) - 2))
+        near.append((-10 ** 60, game[game.people] + 10 ** 60) + (0,) * (len(right) - 2))
+        near.append((True, game[game.people] - 1) + (0,) * (len(right) - 2))
+        near.append((game[game.people], False) + (0,) * (len(right) - 2))
+    return [value for value in strange() if value != right] + near

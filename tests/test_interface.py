@@ -8,6 +8,20 @@ from tests.cases import PAIRS
 
 FUNCTIONS = {
     "joinmore.base.names": {"is_integer": "value", "is_name": "value"},
+    "joinmore.base.gaps": {
+        "is_test": "game value", "tests": "game", "gap": "game test", "is_growing": "game", "is_shrinking": "game",
+        "is_additive": "game", "broken": "game", "is_growing_by": "game one other",
+    },
+    "joinmore.pay.pays": {
+        "is_order": "game value", "orders": "game", "pay": "game order", "pays": "game", "orders_of": "game sharing",
+    },
+    "joinmore.pay.sharings": {
+        "is_sharing": "game value", "share_for": "game sharing group", "slack": "game sharing group",
+        "leaving": "game sharing", "is_kept": "game value",
+    },
+    "joinmore.pay.mixtures": {
+        "are_weights": "game value", "weight_of": "game weights", "mix": "game weights", "is_mixture": "game sharing value",
+    },
 }
 CLASSES = {
     "joinmore.errors": {

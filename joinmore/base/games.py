@@ -99,7 +99,8 @@ class Game:
         return len(self._people)
 
     def __eq__(self, other):
-        return isinstance(other, Game) and self._people == other._people and self._worths == other._worths
+        # The groups are the keys of the worths, so equal worths tell equal persons, too.
+        return isinstance(other, Game) and self._worths == other._worths
 
     def __str__(self):
         return f"game of {len(self._people)} persons, {self._worths[self._people]} in all"

@@ -1,0 +1,65 @@
+"""Tests of a game: what two persons bring to a group together and one by one."""
+
+from joinmore.base.games import check_game, check_group
+from joinmore.base.sets import common, union
+from joinmore.errors import InvalidOperation
+
+
+def is_test(game, value):
+    """Whether the value is a test of the game."""
+    check_game(game)
+    if not isinstance(value, tuple) or len(value) != 3:
+        return False
+    group, one, other = value
+    if group not in game.groups or one not in game or other not in game:
+        return False
+    return one < other and one not in group and other not in group
+
+
+def tests(game):
+    """All tests of the game, ascending."""
+    check_game(game)
+    people = game.people
+    triples = [(group, one, other) for group in game.groups for one in people for other in people]
+    return tuple([triple for triple in triples if is_test(game, triple)])
+
+
+def gap(game, test):
+    """What the two persons of a test bring together, more than one by one."""
+    if not is_test(game, test):
+        raise InvalidOperation("this is no test of the game")
+    return _gap_of(game, test)
+
+
+def broken(game):
+    """All broken tests, ascending."""
+    return tuple([test for test in tests(game) if _gap_of(game, test) < 0])
+
+
+def is_growing(game):
+    """Whether all tests hold."""
+    return not broken(game)
+
+
+def is_shrinking(game):
+    """Whether no gap is above 0."""
+    return all([_gap_of(game, test) <= 0 for test in tests(game)])
+
+
+def is_additive(game):
+    """Whether the game is growing and shrinking."""
+    return is_growing(game) and is_shrinking(game)
+
+
+def is_growing_by(game, one, other):
+    """Whether the union and what is common of two groups have at least their worths."""
+    check_game(game)
+    check_group(game, one)
+    check_group(game, other)
+    return game[union(one, other)] + game[common(one, other)] >= game[one] + game[other]
+
+
+def _gap_of(game, test):
+    group, one, other = test
+    both = game[union(group, (one, other))]
+    return both + game[group] - game[union(group, (one,))] - game[union(group, (other,))]

@@ -1,0 +1,1 @@
+"""Sharings, the pays of orders, and their mixtures."""

@@ -1,0 +1,53 @@
+"""Orders in which the persons come, and what each one brings then."""
+
+from joinmore.base.games import check_game
+from joinmore.base.sets import union
+from joinmore.errors import InvalidOperation
+from joinmore.pay.sharings import check_sharing
+
+
+def is_order(game, value):
+    """Whether the value is a tuple of all persons, each once."""
+    check_game(game)
+    if not isinstance(value, tuple) or len(value) != len(game):
+        return False
+    return all([person in value for person in game.people])
+
+
+def orders(game):
+    """All orders of the persons, ascending."""
+    check_game(game)
+    people = game.people
+    begun = [()]
+    # Each begun order goes on with ascending persons, so the orders stay ascending.
+    for _ in people:
+        begun = [order + (person,) for order in begun for person in people if person not in order]
+    return tuple(begun)
+
+
+def pay(game, order):
+    """What each person brings when the persons come in this order."""
+    if not is_order(game, order):
+        raise InvalidOperation("this is no order of the game")
+    return _pay_of(game, order)
+
+
+def pays(game):
+    """All different pays, ascending."""
+    return tuple(sorted(set([_pay_of(game, order) for order in orders(game)])))
+
+
+def orders_of(game, sharing):
+    """All orders whose pay the sharing is, ascending."""
+    check_sharing(game, sharing)
+    return tuple([order for order in orders(game) if _pay_of(game, order) == sharing])
+
+
+def _pay_of(game, order):
+    brought = {}
+    ahead = ()
+    for person in order:
+        together = union(ahead, (person,))
+        brought[person] = game[together] - game[ahead]
+        ahead = together
+    return tuple([brought[person] for person in game.people])
