@@ -98,6 +98,163 @@ def same(one, other):
     return one == other
 
 
+def share_by_hand(game, sharing, group):
+    return sum(sharing[list(game.people).index(person)] for person in group)
+
+
+def left_by_hand(game, sharing):
+    """The groups that have less than they gain alone."""
+    return [group for group in all_groups(game.people) if share_by_hand(game, sharing, group) < game[group]]
+
+
+def tight_by_hand(game, sharing):
+    """The groups that have just what they gain alone."""
+    return [group for group in all_groups(game.people) if share_by_hand(game, sharing, group) == game[group]]
+
+
+def room_by_hand(game, sharing, giver, getter):
+    """What the giver can give to the getter before some group leaves a kept sharing."""
+    groups = [group for group in all_groups(game.people) if giver in group and getter not in group]
+    return min(share_by_hand(game, sharing, group) - game[group] for group in groups)
+
+
+def given_by_hand(game, sharing, giver, getter, amount):
+    told = dict(zip(game.people, sharing))
+    told[giver] -= amount
+    told[getter] += amount
+    return tuple(told[person] for person in game.people)
+
+
+def gap_by_hand(game, test):
+    group, one, other = test
+    put = [tuple(sorted(group + more)) for more in ((one, other), (), (one,), (other,))]
+    return game[put[0]] + game[put[1]] - game[put[2]] - game[put[3]]
+
+
+def all_tests(people):
+    found = []
+    for group in all_groups(people):
+        rest = [person for person in people if person not in group]
+        found += [(group, one, other) for at, one in enumerate(rest) for other in rest[at + 1:]]
+    return found
+
+
+def broken_by_hand(game):
+    return [test for test in sorted(all_tests(game.people)) if gap_by_hand(game, test) < 0]
+
+
+def pairs_of(people):
+    """All pairs of two different persons."""
+    return [(one, other) for one in people for other in people if one != other]
+
+
+def estate_like(people, total, claims):
+    """Each group has what is left when all others are paid, but at least 0."""
+    owed = dict(zip(people, claims))
+    return game_by(people, lambda group: max(0, total - sum(owed[person] for person in people if person not in group)))
+
+
+def by_size(people, worths):
+    """All groups of one number of persons have one worth."""
+    return game_by(people, lambda group: worths[len(group)])
+
+
+def by_dividends(people, seed, unit):
+    """Some groups of two or more bring something each, all persons something of either sign."""
+    def brought(group):
+        told = sum((at + 1) * (seed + 2) * people.index(person) for at, person in enumerate(group)) + seed
+        return (told % 7 - 3) * unit if len(group) == 1 else max(0, told % 5 - 2) * unit
+    return game_by(people, lambda group: sum(brought(part) for part in some_groups(group)))
+
+
+def high_games(people):
+    """Growing games with worths near 10 ** 9 on both sides."""
+    many, high = len(people), 10 ** 9
+    claims = [high // 2 + 17 * at * at for at in range(many)]
+    return [
+        Game.additive(people, (high - 2, 1 - high, 1, 0, 0)[:many]),
+        estate_like(people, min(high, sum(claims)), claims),
+        estate_like(people, high // 2 + 13, [high - 7 * at for at in range(many)]),
+        by_size(people, [0] + [-high] * (many - 1) + [high]),
+        by_size(people, [at * at * high // (many * many) for at in range(many + 1)]),
+        by_size(people, [0] + [-high + (at - 1) * (at - 2) * (high // 10 + 3) for at in range(1, many + 1)]),
+    ]
+
+
+def growing_games():
+    """Growing games of one to five persons: additive, like estates, by size, by dividends, near 0 and near 10 ** 9."""
+    found = [PAIRS, STEPS, PAIRS + STEPS, PAIRS.beside(Game(("d",), {("d",): 5})), PAIRS.beside(Game.additive(("q", "r"), (1, -2)))]
+    for people in PEOPLE:
+        many = len(people)
+        found.append(Game.additive(people, tuple(range(-1, many - 1))))
+        found.append(Game.additive(people, (0,) * many))
+        found.append(estate_like(people, 2 * many + 1, [at + 3 for at in range(many)]))
+        found.append(by_size(people, [at * at - 2 * at for at in range(many + 1)]))
+        found.append(by_size(people, [0] * many + [5]))
+        found += [growing(people, 2), growing(people, 7), by_dividends(people, 1, 1), by_dividends(people, 4, 11)]
+        found += high_games(people)
+    return found
+
+
+def other_games():
+    """Games that are not growing."""
+    found = [MOST, PAIRS.turned(), STEPS.turned()]
+    for people in PEOPLE[1:]:
+        found += [wild(people, 1), wild(people, 5), by_size(people, [0] + [3] * len(people))]
+        flat = Game.additive(people, tuple(range(len(people))))
+        for group in (people[:1], people[-1:], people[1:]):
+            found.append(flat.with_worth(group, flat[group] + 1))
+    return [game for game in found if broken_by_hand(game)]
+
+
+def some_kept(game, many=4):
+    """Some kept sharings of a growing game: pays, and what lies between them by gifts."""
+    orders = all_orders(game.people)
+    found = []
+    for at in range(many):
+        sharing = walked(game, orders[at * 31 % len(orders)])
+        found.append(sharing)
+        for step, (giver, getter) in enumerate(pairs_of(game.people)):
+            room = room_by_hand(game, sharing, giver, getter)
+            if (step + at) % 3 == 0 and room > 0:
+                sharing = given_by_hand(game, sharing, giver, getter, (room + step) // 2 if room > step else room)
+        found.append(sharing)
+    return list(dict.fromkeys(found))
+
+
+def some_left(game):
+    """Some sharings of a growing game that some group leaves."""
+    found = []
+    for sharing in some_kept(game, 2):
+        for giver, getter in pairs_of(game.people)[:3]:
+            room = room_by_hand(game, sharing, giver, getter)
+            found.append(given_by_hand(game, sharing, giver, getter, room + 1))
+            found.append(given_by_hand(game, sharing, giver, getter, room + 10 ** 30))
+    return found
+
+
+def forced_kept(game):
+    """All kept sharings by force: each tuple from the single worths up."""
+    low = [game[person,] for person in game.people]
+    spare = game[game.people] - sum(low)
+    begun = [()]
+    for at in range(len(low) - 1):
+        begun = [row + (low[at] + more,) for row in begun for more in range(spare - sum(row) + sum(low[:at]) + 1)]
+    full = [row + (game[game.people] - sum(row),) for row in begun]
+    return sorted(row for row in full if not left_by_hand(game, row))
+
+
+def small_growing():
+    """Growing games with few kept sharings."""
+    found = [PAIRS, STEPS, PAIRS.beside(Game(("d",), {("d",): 5})), Game.additive(("a", "b"), (2, -1))]
+    for people in PEOPLE[:4]:
+        many = len(people)
+        found.append(by_size(people, [at * (at - 1) // 2 for at in range(many + 1)]))
+        found += [by_size(people, [0] * many + [3]), estate_like(people, many + 2, [at + 2 for at in range(many)])]
+        found += [by_dividends(people, seed, 1) for seed in (1, 2, 3)]
+    return found
+
+
 def no_games():
     """Values that are no game."""
     return [value for value in strange() if not isinstance(value, Game)] + [PAIRS.people, [PAIRS], (PAIRS,), {"a": PAIRS}]
@@ -130,6 +287,18 @@ def walked(game, order):
         ahead.append(person)
         told[person] = game[tuple(sorted(ahead))] - before
     return tuple(told[person] for person in sorted(told))
+
+
+def no_persons(people):
+    """Values that are no person, although some are near to one."""
+    near = [people, people[:1], list(people), people[0].upper(), people[0] + " ", people[0] + "zz", {people[0]: 1}]
+    return [value for value in strange() if value not in people] + near
+
+
+def no_amounts():
+    """Values that are no integer of at least 0."""
+    wrong = [-1, -10 ** 59, 10 ** 60, 10 ** 99, True, False, None, "1", "", (1,), [1], {1: 1}, (), [], {}]
+    return wrong + [PAIRS, MoreError("a")]
 
 
 def no_orders(people):

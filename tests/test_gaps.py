@@ -5,23 +5,11 @@ import unittest
 from joinmore.base.games import Game
 from joinmore.base.gaps import broken, gap, is_additive, is_growing, is_growing_by, is_shrinking, is_test, tests
 from joinmore.errors import InvalidGame, InvalidOperation
-from tests.cases import MOST, PAIRS, PEOPLE, STEPS, all_groups, game_by, games, growing, no_games, no_groups, strange, wild
+from tests.cases import (
+    MOST, PAIRS, PEOPLE, STEPS, all_groups, all_tests, game_by, games, gap_by_hand, growing, no_games, no_groups, strange, wild,
+)
 
 ADDED = Game.additive(("a", "b", "c"), (4, -1, 2))
-
-
-def all_tests(people):
-    found = []
-    for group in all_groups(people):
-        rest = [person for person in people if person not in group]
-        found += [(group, one, other) for at, one in enumerate(rest) for other in rest[at + 1:]]
-    return found
-
-
-def gap_by_hand(game, test):
-    group, one, other = test
-    put = [tuple(sorted(group + more)) for more in ((one, other), (), (one,), (other,))]
-    return game[put[0]] + game[put[1]] - game[put[2]] - game[put[3]]
 
 
 def no_tests(people):

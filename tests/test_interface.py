@@ -22,6 +22,19 @@ FUNCTIONS = {
     "joinmore.pay.mixtures": {
         "are_weights": "game value", "weight_of": "game weights", "mix": "game weights", "is_mixture": "game sharing value",
     },
+    "joinmore.pay.papers": {"paper": "game sharing", "is_paper": "game sharing value"},
+    "joinmore.pay.verdict": {
+        "left_by": "game test", "left_orders": "game", "game_paper": "game", "is_game_paper": "game value",
+        "are_kept_within": "game group",
+    },
+    "joinmore.pay.bounds": {
+        "least_share": "game group", "greatest_share": "game group", "tight": "game sharing",
+        "room": "game sharing giver getter", "gift": "game sharing giver getter amount",
+    },
+    "joinmore.more.moves": {
+        "moves": "game sharing", "moved": "game sharing giver getter", "distance": "game one other",
+        "getter_for": "game one other giver", "way": "game one other", "is_way": "game one other value", "kept_sharings": "game",
+    },
 }
 CLASSES = {
     "joinmore.errors": {

@@ -54,7 +54,9 @@ class Language(unittest.TestCase):
     def test_imports(self):
         for path, tree in self.trees.items():
             for node in ast.walk(tree):
-                if isinstance(node, ast.ImportFrom):
+                if isinstance(node, ast.ImportFrom) and node.module == "math":
+                    self.assertEqual([(name.name, name.asname) for name in node.names], [("gcd", None)], path)
+                elif isinstance(node, ast.ImportFrom):
                     self.assertEqual(node.level, 0, path)
                     self.assertTrue(node.module.startswith("joinmore."), (path, node.module))
                     place = node.module.split(".", 1)[1].replace(".", "/") + ".py"

@@ -5,13 +5,11 @@ import unittest
 from joinmore.base.games import Game
 from joinmore.errors import InvalidGame, InvalidOperation, InvalidSharing
 from joinmore.pay.sharings import is_kept, is_sharing, leaving, share_for, slack
-from tests.cases import MOST, PAIRS, PEOPLE, STEPS, all_groups, games, no_games, no_groups, no_sharings, sharing_of, strange, wild
+from tests.cases import (
+    MOST, PAIRS, PEOPLE, STEPS, all_groups, games, no_games, no_groups, no_sharings, share_by_hand, sharing_of, strange, wild,
+)
 
 HUGE = 10 ** 60 - 1
-
-
-def share_by_hand(game, sharing, group):
-    return sum(sharing[list(game.people).index(person)] for person in group)
 
 
 class Examples(unittest.TestCase):

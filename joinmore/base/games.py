@@ -1,8 +1,9 @@
 """Games: what each group of some persons gains."""
 
 from joinmore.base.names import is_integer, is_name
-from joinmore.base.sets import common, groups_of, is_ascending, is_row, sum_for, union, without
-from joinmore.errors import InvalidGame, InvalidNumber, InvalidOperation
+from joinmore.base.rows import is_row, sum_for
+from joinmore.base.sets import common, groups_of, is_ascending, union, without
+from joinmore.errors import InvalidGame, InvalidNumber, InvalidOperation, UnknownName
 
 MAX_PEOPLE = 5
 MAX_WORTH = 10 ** 9
@@ -55,6 +56,12 @@ def check_some(game, value):
         raise InvalidOperation("the group of nobody does not do here")
 
 
+def check_person(game, value):
+    """Refuse what is no person of the game."""
+    if value not in game:
+        raise UnknownName(value)
+
+
 class Game:
     """One to five persons, and a worth for each group of them."""
 
@@ -65,6 +72,7 @@ class Game:
         self._people = people
         self._groups = groups_of(people)
         self._worths = {group: worths.get(group, 0) for group in self._groups}
+        self._row = tuple([self._worths[group] for group in self._groups])
 
     @classmethod
     def additive(cls, people, amounts):
@@ -84,6 +92,15 @@ class Game:
     def groups(self):
         """All groups, ascending, () among them."""
         return self._groups
+
+    @property
+    def row(self):
+        """The worths of all groups, in the order of the groups."""
+        return self._row
+
+    def worth_of(self, persons):
+        """The worth of the group of some persons, who stand in any order."""
+        return self._worths[tuple(sorted(persons))]
 
     def __getitem__(self, at):
         check_group(self, at)

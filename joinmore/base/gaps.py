@@ -2,7 +2,7 @@
 
 from joinmore.base.games import check_game, check_group
 from joinmore.base.sets import common, union
-from joinmore.errors import InvalidOperation
+from joinmore.errors import InvalidOperation, NotGrowing
 
 
 def is_test(game, value):
@@ -39,6 +39,13 @@ def broken(game):
 def is_growing(game):
     """Whether all tests hold."""
     return not broken(game)
+
+
+def check_growing(game):
+    """Refuse a game that is not growing."""
+    tests_broken = broken(game)
+    if tests_broken:
+        raise NotGrowing(tests_broken[0])
 
 
 def is_shrinking(game):

@@ -1,6 +1,4 @@
-"""Sets of persons, told as ascending tuples, and numbers for persons."""
-
-from joinmore.base.names import is_integer
+"""Sets of persons, told as ascending tuples."""
 
 
 def is_ascending(values):
@@ -11,9 +9,10 @@ def is_ascending(values):
 def groups_of(people):
     """All groups of a set of persons, ascending, () among them."""
     groups = [()]
-    for person in people:
-        groups = groups + [group + (person,) for group in groups]
-    return tuple(sorted(groups))
+    # Behind () stand the groups that begin with the first person, and behind these the others.
+    for person in people[::-1]:
+        groups = [()] + [(person,) + group for group in groups] + groups[1:]
+    return tuple(groups)
 
 
 def union(one, other):
@@ -29,15 +28,3 @@ def common(one, other):
 def without(one, other):
     """The persons of the one group who are not in the other one."""
     return tuple([person for person in one if person not in other])
-
-
-def is_row(people, value):
-    """Whether the value is a tuple of one integer for each person."""
-    if not isinstance(value, tuple) or len(value) != len(people):
-        return False
-    return all([is_integer(number) for number in value])
-
-
-def sum_for(people, row, group):
-    """The sum of the numbers that the persons of a group have in a row."""
-    return sum([number for person, number in zip(people, row) if person in group])

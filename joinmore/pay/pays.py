@@ -1,7 +1,6 @@
 """Orders in which the persons come, and what each one brings then."""
 
 from joinmore.base.games import check_game
-from joinmore.base.sets import union
 from joinmore.errors import InvalidOperation
 from joinmore.pay.sharings import check_sharing
 
@@ -12,6 +11,13 @@ def is_order(game, value):
     if not isinstance(value, tuple) or len(value) != len(game):
         return False
     return all([person in value for person in game.people])
+
+
+def pay_of(game, order):
+    """The pay of what is known to be an order."""
+    worths = [game.worth_of(order[:many]) for many in range(len(order) + 1)]
+    brought = {person: worths[at + 1] - worths[at] for at, person in enumerate(order)}
+    return tuple([brought[person] for person in game.people])
 
 
 def orders(game):
@@ -29,25 +35,15 @@ def pay(game, order):
     """What each person brings when the persons come in this order."""
     if not is_order(game, order):
         raise InvalidOperation("this is no order of the game")
-    return _pay_of(game, order)
+    return pay_of(game, order)
 
 
 def pays(game):
     """All different pays, ascending."""
-    return tuple(sorted(set([_pay_of(game, order) for order in orders(game)])))
+    return tuple(sorted(set([pay_of(game, order) for order in orders(game)])))
 
 
 def orders_of(game, sharing):
     """All orders whose pay the sharing is, ascending."""
     check_sharing(game, sharing)
-    return tuple([order for order in orders(game) if _pay_of(game, order) == sharing])
-
-
-def _pay_of(game, order):
-    brought = {}
-    ahead = ()
-    for person in order:
-        together = union(ahead, (person,))
-        brought[person] = game[together] - game[ahead]
-        ahead = together
-    return tuple([brought[person] for person in game.people])
+    return tuple([order for order in orders(game) if pay_of(game, order) == sharing])

@@ -1,8 +1,8 @@
 """Sharings of a game, and the groups that leave them."""
 
 from joinmore.base.games import check_game, check_group
-from joinmore.base.sets import is_row, sum_for
-from joinmore.errors import InvalidSharing
+from joinmore.base.rows import is_row, sum_for, sums
+from joinmore.errors import InvalidSharing, Left
 
 
 def is_sharing(game, value):
@@ -15,6 +15,23 @@ def check_sharing(game, value):
     """Refuse what is no sharing of the game."""
     if not is_sharing(game, value):
         raise InvalidSharing("this is no sharing of the game")
+
+
+def slacks_of(game, factor, sharing):
+    """The slacks of all groups in a sharing of the game times a factor."""
+    return [share - factor * worth for share, worth in zip(sums(sharing), game.row)]
+
+
+def leaving_of(game, sharing):
+    """The groups that leave what is known to be a sharing, ascending."""
+    return [group for group, left in zip(game.groups, slacks_of(game, 1, sharing)) if left < 0]
+
+
+def check_kept(game, sharing):
+    """Refuse a sharing that some group leaves."""
+    groups = leaving_of(game, sharing)
+    if groups:
+        raise Left(groups[0])
 
 
 def share_for(game, sharing, group):
@@ -32,9 +49,9 @@ def slack(game, sharing, group):
 def leaving(game, sharing):
     """All groups that leave the sharing, ascending."""
     check_sharing(game, sharing)
-    return tuple([group for group in game.groups if sum_for(game.people, sharing, group) < game[group]])
+    return tuple(leaving_of(game, sharing))
 
 
 def is_kept(game, value):
     """Whether the value is a sharing that no group leaves."""
-    return is_sharing(game, value) and not leaving(game, value)
+    return is_sharing(game, value) and not leaving_of(game, value)

@@ -1,0 +1,30 @@
+"""Rows: a number for each person, or a number for each group, in their order."""
+
+from joinmore.base.names import is_integer
+
+
+def is_row(people, value):
+    """Whether the value is a tuple of one integer for each person."""
+    if not isinstance(value, tuple) or len(value) != len(people):
+        return False
+    return all([is_integer(number) for number in value])
+
+
+def sum_for(people, row, group):
+    """The sum of the numbers that the persons of a group have in a row."""
+    return sum([number for person, number in zip(people, row) if person in group])
+
+
+def sums(row):
+    """The sum of the numbers for each group, by the numbers for the persons."""
+    found = [0]
+    # Behind () stand the groups that begin with the first person, and behind these the others.
+    for number in row[::-1]:
+        found = [0] + [number + told for told in found] + found[1:]
+    return found
+
+
+def halves(row):
+    """The numbers for the groups without the first person, and for the same groups with it."""
+    many = len(row) // 2
+    return row[:1] + row[many + 1:], row[1:many + 1]
