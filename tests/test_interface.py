@@ -35,6 +35,18 @@ FUNCTIONS = {
         "moves": "game sharing", "moved": "game sharing giver getter", "distance": "game one other",
         "getter_for": "game one other giver", "way": "game one other", "is_way": "game one other value", "kept_sharings": "game",
     },
+    "joinmore.more.even": {
+        "ladder": "game sizes", "even": "game sizes", "even_sharing": "game sizes", "is_even": "game sizes value",
+        "barring": "game sizes poorer richer", "unevenness": "game sizes sharing",
+    },
+    "joinmore.more.parts": {
+        "does_split": "game group", "splitting": "game", "parts": "game", "part_of": "game person", "freedom": "game",
+        "part_games": "game", "short_paper": "game sharing", "is_short_paper": "game sharing value",
+    },
+    "joinmore.more.between": {
+        "are_between": "low high value", "between_paper": "low high", "is_between_paper": "low high value",
+        "span": "low high person", "split": "one other amounts", "is_split": "one other amounts value",
+    },
 }
 CLASSES = {
     "joinmore.errors": {

@@ -9,3 +9,17 @@ def common_divisor(numbers):
     for number in numbers:
         divisor = gcd(divisor, number)
     return divisor
+
+
+def fraction(above, below):
+    """The fraction of two integers, the second one at least 1, without a common divisor above 1."""
+    divisor = gcd(above, below)
+    return above // divisor, below // divisor
+
+
+def common_multiple(numbers):
+    """The least integer of at least 1 that is a multiple of some integers of at least 1."""
+    multiple = 1
+    for number in numbers:
+        multiple = multiple * number // gcd(multiple, number)
+    return multiple

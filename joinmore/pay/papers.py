@@ -1,7 +1,7 @@
 """Papers of sharings: a mixture of few orders, or a group that leaves."""
 
 from joinmore.base.gaps import check_growing
-from joinmore.base.ratios import common_divisor
+from joinmore.base.ratios import common_divisor, fraction
 from joinmore.base.rows import sums
 from joinmore.base.sets import without
 from joinmore.pay.bounds import tight_of
@@ -75,5 +75,4 @@ def _least(fractions):
     for above, below in fractions:
         if above * least[1] < least[0] * below:
             least = (above, below)
-    divisor = common_divisor(least)
-    return least[0] // divisor, least[1] // divisor
+    return fraction(least[0], least[1])
