@@ -301,6 +301,30 @@ def no_amounts():
     return wrong + [PAIRS, MoreError("a")]
 
 
+def mixes_to(game, sharing, weights):
+    """Whether weights mix to the sharing times their total, by sums of its own."""
+    total = sum(weight for _, weight in weights)
+    rows = [[weight * share for share in walked(game, order)] for order, weight in weights]
+    return [sum(row[at] for row in rows) for at in range(len(sharing))] == [total * share for share in sharing]
+
+
+def faults_of(game, sharing, weights, most):
+    """What is wrong with weights of at most so many orders by which a sharing should be the mixture."""
+    if weights.__class__ is not tuple or not 1 <= len(weights) <= most:
+        return ["these are no weights, or too many"]
+    if not all(pair.__class__ is tuple and len(pair) == 2 for pair in weights):
+        return ["not all of them are pairs"]
+    orders = [order for order, _ in weights]
+    found = []
+    if not all(order in all_orders(game.people) for order in orders) or orders != sorted(set(orders)):
+        found.append("these are no orders, or do not ascend")
+    if not all(weight.__class__ is int and 1 <= weight < 10 ** 60 for _, weight in weights):
+        found.append("some weight is no integer of at least 1, or is too long")
+    if not mixes_to(game, sharing, weights):
+        found.append("they do not mix to the sharing")
+    return found
+
+
 def no_orders(people):
     """Values that are no order of the persons, although some are near to one."""
     near = [people[1:], people + people[:1], people[:-1] + ("zz",), list(people), people[:1] * len(people + ("a",)), (people,)]

@@ -7,8 +7,8 @@ from joinmore.base.games import Game
 from joinmore.errors import InvalidGame, InvalidOperation, InvalidSharing, Left, NotGrowing, UnknownName
 from joinmore.more.between import are_between, between_paper, is_between_paper, is_split, span, split
 from tests.cases import (
-    MOST, PAIRS, PEOPLE, STEPS, all_groups, all_orders, broken_by_hand, by_size, forced_kept, gap_by_hand, growing, growing_games, high_games,
-    all_tests, left_by_hand, no_games, other_games, share_by_hand, small_growing, some_groups, some_kept, strange, walked, wild,
+    MOST, PAIRS, PEOPLE, STEPS, all_groups, all_orders, all_tests, broken_by_hand, by_size, forced_kept, gap_by_hand, growing, growing_games,
+    high_games, left_by_hand, no_games, other_games, share_by_hand, small_growing, some_groups, some_kept, strange, walked, wild,
 )
 from tests.refusals import raised, refused, unchanged
 
@@ -235,6 +235,17 @@ class Split(unittest.TestCase):
         self.assertTrue(first <= known[0])
         self.assertIs(is_split(one, other, amounts, told), True)
         self.assertIs(is_split(one, other, amounts, known), True)
+
+    def test_sums_of_kept_sharings_are_kept(self):
+        for one in small_growing():
+            other = growing(one.people, 2)
+            both = one + other
+            self.assertEqual(broken_by_hand(both), [])
+            for mine in forced_kept(one)[:12]:
+                for others in some_kept(other, 2):
+                    amounts = tuple(share + more for share, more in zip(mine, others))
+                    self.assertEqual(left_by_hand(both, amounts), [])
+                    self.assertIs(is_split(one, other, amounts, (mine, others)), True)
 
     def test_values_that_are_none(self):
         wrong = (

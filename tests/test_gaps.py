@@ -43,6 +43,16 @@ class Tests(unittest.TestCase):
                 self.assertIs(is_test(wild(people, 1), tuple(list(test))), True)
         self.assertEqual(tests(wild(("a", "b"), 1)), (((), "a", "b"),))
 
+    def test_just_those_that_are_tests(self):
+        named = [("a", "ann", "b", "bo", "c"), ("ab", "abc", "b"), ("a", "aa", "aaa", "ab")]
+        for people in list(PEOPLE) + named:
+            for game in (wild(people, 4), Game.additive(people, tuple(range(len(people)))), growing(people, 3)):
+                triples = [(group, one, other) for group in all_groups(people) for one in people for other in people]
+                found = tests(game)
+                self.assertEqual(found, tuple(sorted(triple for triple in triples if is_test(game, triple))))
+                self.assertTrue(all(one < other for one, other in zip(found, found[1:])))
+                self.assertEqual(tests(game), found)
+
     def test_values_that_are_no_test(self):
         for people in PEOPLE[2:]:
             for value in no_tests(people):
@@ -113,6 +123,22 @@ class Kinds(unittest.TestCase):
                 worse = game.with_worth(put, game[put] - gap_by_hand(game, test) - 1)
                 self.compare(worse)
                 self.assertIn(test, broken(worse))
+
+    def test_the_order_of_the_questions_has_no_effect(self):
+        for people in PEOPLE:
+            for seed in (1, 6):
+                calls = (is_growing, broken, is_shrinking, is_additive, tests)
+                first = [call(wild(people, seed)) for call in calls]
+                game = wild(people, seed)
+                self.assertEqual([call(game) for call in calls], first)
+                self.assertEqual([call(game) for call in calls[::-1]], first[::-1])
+                # A game that is made of one that was asked has its own answers.
+                for group in all_groups(people)[1:]:
+                    self.compare(game.with_worth(group, game[group] + 40))
+                self.compare(game + growing(people, 2))
+                self.compare(game * 3)
+                self.assertEqual([call(game) for call in calls], first)
+                self.assertEqual(game, wild(people, seed))
 
     def test_broken_tests_ascend(self):
         for people in PEOPLE:

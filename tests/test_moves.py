@@ -6,7 +6,7 @@ from joinmore.base.games import Game
 from joinmore.errors import InvalidGame, InvalidOperation, Left, NotGrowing, TooMany, UnknownName
 from joinmore.more.moves import MAX_KEPT, distance, getter_for, is_way, kept_sharings, moved, moves, way
 from tests.cases import (
-    MOST, PAIRS, PEOPLE, STEPS, all_orders, by_size, forced_kept, given_by_hand, growing_games, high_games, left_by_hand, other_games,
+    MOST, PAIRS, PEOPLE, STEPS, by_size, forced_kept, given_by_hand, growing_games, high_games, left_by_hand, other_games,
     pairs_of, room_by_hand, sharing_of, small_growing, some_kept, some_left, strange, walked, wild,
 )
 from tests.refusals import left, not_growing, raised, refused, unchanged
@@ -156,7 +156,7 @@ class Ways(unittest.TestCase):
             (("c", "b"), ("b", "a")), (("a", "c"), ("b", "c")), [("c", "a"), ("c", "b")], (["c", "a"], ["c", "b"]), (("c", "a"), ["c", "b"]),
             (("c", "a"), ("c", "z")), (("c", "a"), ("c", "c")), (("c", "a"), ("c",)), (("c", "a"), ("c", "b", "a")), (("c", "a"), None),
             (("c", "a"), "cb"), ("ca", "cb"), "ca", None, True, 2, {("c", "a"): 1, ("c", "b"): 1}, (("c", "a"), ("c", True)),
-            (("c", "a"), ("c", None)), (("c", "a"), (["c"], "b")), (("c", "c"), ("c", "c")), (None, None), (1, 1), ((), ()), PAIRS,
+            (("c", "a"), ("c", None)), (("c", "a"), (["c"], "b")), (("c", "a"), ("c", ["b"])), (("c", "a"), ("c", {"b": 1})), (("c", "c"), ("c", "c")), (None, None), (1, 1), ((), ()), PAIRS,
             (("c", "a"), ("c", "b"), ("c", "a"), ("a", "c")), ((("c", "a"), ("c", "b")),),
         )
         for value in wrong:

@@ -2,25 +2,17 @@
 
 import unittest
 
-from joinmore.base.games import Game
 from joinmore.errors import NotGrowing
 from joinmore.pay.papers import is_paper, paper
 from joinmore.pay.pays import orders
 from tests.cases import (
-    MOST, PAIRS, PEOPLE, STEPS, all_groups, all_orders, by_size, forced_kept, growing_games, high_games, left_by_hand, other_games,
-    sharing_of, small_growing, some_kept, some_left, strange, walked, wild,
+    MOST, PAIRS, PEOPLE, STEPS, all_groups, all_orders, by_size, faults_of, forced_kept, growing_games, high_games, left_by_hand,
+    mixes_to, other_games, sharing_of, small_growing, some_kept, some_left, strange, walked, wild,
 )
 from tests.refusals import not_growing, raised, refused, unchanged
 
 ABC, ACB, BAC, BCA, CAB, CBA = all_orders(("a", "b", "c"))
 TWO = ((ABC, 1), (CBA, 1))
-
-
-def mixes_to(game, sharing, weights):
-    """Whether weights mix to the sharing times their total, by sums of its own."""
-    total = sum(weight for _, weight in weights)
-    rows = [[weight * share for share in walked(game, order)] for order, weight in weights]
-    return [sum(row[at] for row in rows) for at in range(len(sharing))] == [total * share for share in sharing]
 
 
 class Examples(unittest.TestCase):
@@ -41,18 +33,7 @@ class Papers(unittest.TestCase):
         told = unchanged(self, paper, game, sharing)
         self.assertIsInstance(told, tuple)
         self.assertEqual((len(told), told[0]), (2, "mixture"))
-        weights = told[1]
-        self.assertIsInstance(weights, tuple)
-        self.assertTrue(1 <= len(weights) <= len(game))
-        for pair in weights:
-            self.assertIs(pair.__class__, tuple)
-            order, weight = pair
-            self.assertIn(order, all_orders(game.people))
-            self.assertIs(weight.__class__, int)
-            self.assertTrue(1 <= weight < 10 ** 60)
-        told_orders = [order for order, _ in weights]
-        self.assertTrue(all(one < other for one, other in zip(told_orders, told_orders[1:])))
-        self.assertTrue(mixes_to(game, sharing, weights))
+        self.assertEqual(faults_of(game, sharing, told[1], len(game)), [])
         self.assertIs(is_paper(game, sharing, told), True)
         for group in all_groups(game.people):
             self.assertIs(is_paper(game, sharing, ("leaves", group)), False)

@@ -7,8 +7,8 @@ from joinmore.errors import InvalidWeights
 from joinmore.more.parts import does_split, freedom, is_short_paper, part_games, part_of, parts, short_paper, splitting
 from joinmore.pay.mixtures import mix
 from tests.cases import (
-    MOST, PAIRS, PEOPLE, STEPS, all_groups, all_orders, by_size, forced_kept, growing_games, high_games, other_games, same, sharing_of,
-    small_growing, some_kept, some_left, strange, walked, wild,
+    MOST, PAIRS, PEOPLE, STEPS, all_groups, all_orders, by_size, faults_of, forced_kept, growing_games, high_games, mixes_to, other_games,
+    same, sharing_of, small_growing, some_kept, some_left, strange, walked, wild,
 )
 from tests.refusals import left, not_growing, raised, refused, unchanged
 
@@ -41,12 +41,6 @@ def beside_games():
 
 def all_growing():
     return growing_games() + beside_games()
-
-
-def is_mixed(game, sharing, weights):
-    total = sum(weight for _, weight in weights)
-    rows = [[weight * share for share in walked(game, order)] for order, weight in weights]
-    return [sum(row[at] for row in rows) for at in range(len(sharing))] == [total * share for share in sharing]
 
 
 class Examples(unittest.TestCase):
@@ -119,14 +113,7 @@ class Parts(unittest.TestCase):
 class Short(unittest.TestCase):
     def hold(self, game, sharing):
         told = unchanged(self, short_paper, game, sharing)
-        self.assertIsInstance(told, tuple)
-        self.assertTrue(1 <= len(told) <= len(game.people) - len(parts_by_hand(game)) + 1)
-        for order, weight in told:
-            self.assertIn(order, all_orders(game.people))
-            self.assertTrue(weight.__class__ is int and 1 <= weight < 10 ** 60)
-        chosen = [order for order, _ in told]
-        self.assertEqual(chosen, sorted(set(chosen)))
-        self.assertTrue(is_mixed(game, sharing, told))
+        self.assertEqual(faults_of(game, sharing, told, len(game.people) - len(parts_by_hand(game)) + 1), [])
         self.assertIs(is_short_paper(game, sharing, told), True)
 
     def test_short_papers(self):
@@ -160,7 +147,7 @@ class Short(unittest.TestCase):
             ((2, 2, 2, 5), (((a, b, c, d), 10 ** 90), ((c, b, a, d), 10 ** 90))), ((0, 2, 4, 5), (((a, b, c, d), 3), ((d, a, b, c), 1))),
         )
         for sharing, value in right:
-            self.assertTrue(is_mixed(TWO, sharing, value))
+            self.assertTrue(mixes_to(TWO, sharing, value))
             self.assertIs(unchanged(self, is_short_paper, TWO, sharing, value), True, value)
 
     def test_wrong_ones(self):
@@ -176,7 +163,7 @@ class Short(unittest.TestCase):
         )
         for value in wrong:
             self.assertIs(is_short_paper(TWO, (2, 2, 2, 5), value), False, value)
-        self.assertTrue(is_mixed(TWO, (2, 2, 2, 5), wrong[-1]))
+        self.assertTrue(mixes_to(TWO, (2, 2, 2, 5), wrong[-1]))
 
     def test_one_order_for_an_additive_game(self):
         for people in PEOPLE:

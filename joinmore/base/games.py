@@ -1,7 +1,7 @@
 """Games: what each group of some persons gains."""
 
 from joinmore.base.names import is_integer, is_name
-from joinmore.base.rows import is_row, sum_for
+from joinmore.base.rows import gaps_of, is_row, sum_for
 from joinmore.base.sets import common, groups_of, is_ascending, union, without
 from joinmore.errors import InvalidGame, InvalidNumber, InvalidOperation, UnknownName
 
@@ -73,6 +73,7 @@ class Game:
         self._groups = groups_of(people)
         self._worths = {group: worths.get(group, 0) for group in self._groups}
         self._row = tuple([self._worths[group] for group in self._groups])
+        self._gaps = None
 
     @classmethod
     def additive(cls, people, amounts):
@@ -97,6 +98,13 @@ class Game:
     def row(self):
         """The worths of all groups, in the order of the groups."""
         return self._row
+
+    @property
+    def gaps(self):
+        """The gaps of all tests, in the order of the tests; they are asked for often, so they are found once."""
+        if self._gaps is None:
+            self._gaps = gaps_of(self._row)
+        return self._gaps
 
     def worth_of(self, persons):
         """The worth of the group of some persons, who stand in any order."""

@@ -20,37 +20,45 @@ def tests(game):
     """All tests of the game, ascending."""
     check_game(game)
     people = game.people
-    triples = [(group, one, other) for group in game.groups for one in people for other in people]
-    return tuple([triple for triple in triples if is_test(game, triple)])
+    pairs = [(one, other) for at, one in enumerate(people) for other in people[at + 1:]]
+    return tuple([
+        (group, one, other) for group in game.groups for one, other in pairs
+        if one not in group and other not in group
+    ])
 
 
 def gap(game, test):
     """What the two persons of a test bring together, more than one by one."""
     if not is_test(game, test):
         raise InvalidOperation("this is no test of the game")
-    return _gap_of(game, test)
+    group, one, other = test
+    both = game.worth_of(group + (one, other))
+    return both + game.worth_of(group) - game.worth_of(group + (one,)) - game.worth_of(group + (other,))
 
 
 def broken(game):
     """All broken tests, ascending."""
-    return tuple([test for test in tests(game) if _gap_of(game, test) < 0])
+    if is_growing(game):
+        return ()
+    return tuple([test for test, told in zip(tests(game), game.gaps) if told < 0])
 
 
 def is_growing(game):
     """Whether all tests hold."""
-    return not broken(game)
+    check_game(game)
+    return all([told >= 0 for told in game.gaps])
 
 
 def check_growing(game):
     """Refuse a game that is not growing."""
-    tests_broken = broken(game)
-    if tests_broken:
-        raise NotGrowing(tests_broken[0])
+    if not is_growing(game):
+        raise NotGrowing(broken(game)[0])
 
 
 def is_shrinking(game):
     """Whether no gap is above 0."""
-    return all([_gap_of(game, test) <= 0 for test in tests(game)])
+    check_game(game)
+    return all([told <= 0 for told in game.gaps])
 
 
 def is_additive(game):
@@ -64,9 +72,3 @@ def is_growing_by(game, one, other):
     check_group(game, one)
     check_group(game, other)
     return game[union(one, other)] + game[common(one, other)] >= game[one] + game[other]
-
-
-def _gap_of(game, test):
-    group, one, other = test
-    both = game[union(group, (one, other))]
-    return both + game[group] - game[union(group, (one,))] - game[union(group, (other,))]

@@ -28,3 +28,16 @@ def halves(row):
     """The numbers for the groups without the first person, and for the same groups with it."""
     many = len(row) // 2
     return row[:1] + row[many + 1:], row[1:many + 1]
+
+
+def gaps_of(row):
+    """The gaps of all tests, in the order of the tests, by the worths of all groups."""
+    # A bit for each person tells each group by one number, by which groups are joined at once.
+    bits = [1 << at for at in range(len(row).bit_length() - 1)]
+    numbers = sums(bits)
+    worths = {number: worth for number, worth in zip(numbers, row)}
+    return tuple([
+        worths[number | one | other] + worths[number] - worths[number | one] - worths[number | other]
+        for number in numbers for at, one in enumerate(bits) for other in bits[at + 1:]
+        if not number & (one | other)
+    ])

@@ -50,10 +50,10 @@ def barring(game, sizes, poorer, richer):
     check_person(game, poorer)
     check_person(game, richer)
     check_growing(game)
-    group = [group for group, _ in _ladder_of(game, sizes) if richer in group][0]
-    if poorer in group:
+    first = [group for group, _ in _ladder_of(game, sizes) if richer in group][0]
+    if poorer in first:
         return None
-    return group
+    return first
 
 
 def unevenness(game, sizes, sharing):

@@ -1,6 +1,6 @@
 """Papers of games: they are growing, or some group leaves the pay of some order."""
 
-from joinmore.base.games import check_game, check_some
+from joinmore.base.games import check_game
 from joinmore.base.gaps import broken, gap, is_growing
 from joinmore.base.sets import union, without
 from joinmore.errors import InvalidOperation
@@ -45,7 +45,6 @@ def is_game_paper(game, value):
 def are_kept_within(game, group):
     """Whether the pays of the game of a group alone are kept."""
     check_game(game)
-    check_some(game, group)
     # They are exactly if that game is growing [0.15].
     return is_growing(game.only(group))
 
