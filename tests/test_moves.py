@@ -1,13 +1,14 @@
 """[10.1], [0.6], [1.3], stage 10: moves between kept sharings."""
 
+import time
 import unittest
 
 from joinmore.base.games import Game
 from joinmore.errors import InvalidGame, InvalidOperation, Left, NotGrowing, TooMany, UnknownName
 from joinmore.more.moves import MAX_KEPT, distance, getter_for, is_way, kept_sharings, moved, moves, way
 from tests.cases import (
-    MOST, PAIRS, PEOPLE, STEPS, by_size, forced_kept, given_by_hand, growing_games, high_games, left_by_hand, other_games,
-    pairs_of, room_by_hand, sharing_of, small_growing, some_kept, some_left, strange, walked, wild,
+    MOST, PAIRS, PEOPLE, STEPS, by_dividends, by_size, estate_like, forced_kept, given_by_hand, growing_games, high_games,
+    left_by_hand, other_games, pairs_of, room_by_hand, same, sharing_of, small_growing, some_kept, some_left, strange, walked, wild,
 )
 from tests.refusals import left, not_growing, raised, refused, unchanged
 
@@ -204,6 +205,44 @@ class Kept(unittest.TestCase):
         self.assertEqual(kept_sharings(five), tuple(forced_kept(five)))
         five = Game.additive(PEOPLE[-1], (1, -2, 0, 3, -1)).with_worth(PEOPLE[-1], 3)
         self.assertEqual(kept_sharings(five), tuple(forced_kept(five)))
+
+    def test_each_number_of_persons(self):
+        seen = set()
+        for people in PEOPLE:
+            many = len(people)
+            told = [Game.additive(people, (3, -2, 0, 5, -1)[:many])]
+            told += [by_size(people, [0] * many + [more]) for more in range(4)]
+            told += [by_size(people, [-at for at in range(many)] + [2 - many]), estate_like(people, many + 1, [2, 2, 3, 2, 1][:many])]
+            told += [by_dividends(people, seed, 1) for seed in (1, 2, 3) if many < 4]
+            for game in told:
+                expected = forced_kept(game)
+                self.assertEqual(unchanged(self, kept_sharings, game), tuple(expected))
+                self.assertTrue(all(same(one, other) for one, other in zip(kept_sharings(game), expected)))
+                seen.add((many, len(expected) == 1))
+        self.assertEqual(len(seen), 9)
+
+    def test_games_with_few_kept_sharings_of_many_kinds(self):
+        # One person of these games, wherever it stands, has just one share that is kept.
+        for people in PEOPLE[1:]:
+            for person in people:
+                rest = tuple(other for other in people if other != person)
+                one = by_size(rest, [0] * len(rest) + [2]).beside(Game((person,), {(person,): -7}))
+                self.assertEqual(kept_sharings(one), tuple(forced_kept(one)))
+
+    def test_it_does_not_take_long(self):
+        two = ("a", "b"), {("a",): 0, ("a", "b"): 1999, ("b",): 0}
+        three = ("a", "b", "c"), {("a",): 0, ("a", "b"): 20, ("a", "b", "c"): 60, ("a", "c"): 20, ("b",): 0, ("b", "c"): 20, ("c",): 0}
+        for told, many in ((two, 2000), (three, 1261)):
+            least = None
+            for _ in range(8):
+                games = [Game(*told) for _ in range(25)]
+                begun = time.perf_counter()
+                numbers = [len(kept_sharings(game)) for game in games]
+                spent = time.perf_counter() - begun
+                self.assertEqual(numbers, [many] * 25)
+                least = spent if least is None else min(least, spent)
+            # The quickest of several rounds: 2 ms for a call, some fifteen times what a machine of today takes.
+            self.assertLess(least, 25 * 0.002)
 
     def test_the_limit(self):
         two = Game(("a", "b"), {("a",): -5, ("a", "b"): 1997, ("b",): 3})

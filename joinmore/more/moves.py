@@ -3,8 +3,8 @@
 from joinmore.base.games import check_game, check_person
 from joinmore.base.gaps import check_growing
 from joinmore.errors import InvalidOperation, TooMany
-from joinmore.more.spans import all_between
-from joinmore.pay.bounds import check_two, given, greatest_of, room_of, tight_of
+from joinmore.more.spans import all_kept
+from joinmore.pay.bounds import check_two, given, room_of, tight_of
 from joinmore.pay.sharings import check_kept, check_sharing
 
 MAX_KEPT = 2000
@@ -81,8 +81,7 @@ def kept_sharings(game):
     """All kept sharings, ascending."""
     check_game(game)
     check_growing(game)
-    # Each group has from its least to its greatest share [0.16], and what has, is kept.
-    found = all_between(list(game.row), [greatest_of(game, group) for group in game.groups], MAX_KEPT)
+    found = all_kept(game.row, MAX_KEPT)
     if found is None:
         raise TooMany(MAX_KEPT)
     return found

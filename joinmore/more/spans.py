@@ -1,6 +1,6 @@
 """Amounts between the worths of a growing game and those of a shrinking one, person by person, as [13.2] tells.
 
-The worths are told by a row for all groups of the persons who have no amount yet.
+Kept sharings are found so, too. The worths are told by a row for all groups of the persons who have no amount yet.
 """
 
 from joinmore.base.rows import halves
@@ -34,17 +34,44 @@ def first_between(low, high):
     return amounts
 
 
-def all_between(low, high, limit):
-    """All amounts between, ascending, or None if there are more than the limit."""
-    begun = [((), low, high)]
-    while len(begun[0][1]) > 1:
-        spans = [span_of(below, above) for _, below, above in begun]
-        # Each integer of a span leads to amounts, so too many of them tell it at once.
-        if sum([greatest - least + 1 for least, greatest in spans]) > limit:
+def all_kept(row, limit):
+    """All kept sharings of a growing game, ascending, by its worths, or None if there are more than the limit."""
+    many = len(row).bit_length() - 1
+    if many == 1:
+        return (row[1:],)
+    begun = [((), row)]
+    while many > 2:
+        if _count(begun, many) > limit:
             return None
-        begun = [
-            (amounts + (amount,),) + behind(below, above, amount)
-            for (amounts, below, above), (least, greatest) in zip(begun, spans)
-            for amount in range(least, greatest + 1)
-        ]
-    return tuple([amounts for amounts, _, _ in begun])
+        begun = _begun_further(begun, many)
+        many = many - 1
+    if _count(begun, many) > limit:
+        return None
+    # What the last but one has tells what is left for the last one.
+    return tuple([
+        amounts + (amount, told[2] - amount)
+        for amounts, told in begun for amount in range(told[1], told[2] - told[3] + 1)
+    ])
+
+
+def _all_behind(many):
+    """Where the worth of all persons but the first one stands in a row."""
+    return (1 << (many - 1)) + many - 1
+
+
+def _count(begun, many):
+    """How many amounts the next person can have; each of them leads to kept sharings, so too many tell it at once."""
+    behind_first = _all_behind(many)
+    return sum([told[many] - told[behind_first] - told[1] + 1 for _, told in begun])
+
+
+def _begun_further(begun, many):
+    """The amounts of one person more, each with the worths that are left for the other ones."""
+    behind_first = _all_behind(many)
+    found = []
+    for amounts, told in begun:
+        alone, joined = halves(told)
+        # A person of a growing game can have each integer from its least to its greatest share [0.16].
+        for amount in range(told[1], told[many] - told[behind_first] + 1):
+            found.append((amounts + (amount,), [max(one, more - amount) for one, more in zip(alone, joined)]))
+    return found
