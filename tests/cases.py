@@ -1,5 +1,8 @@
 """Games and values that several tests use, and groups counted without the program."""
 
+import re
+from fractions import Fraction
+
 from joinmore.base.games import Game
 from joinmore.errors import InvalidName, InvalidOperation, Left, MoreError, ParseError, UnknownName
 
@@ -354,3 +357,47 @@ def no_sharings(game):
         near.append((True, game[game.people] - 1) + (0,) * (len(right) - 2))
         near.append((game[game.people], False) + (0,) * (len(right) - 2))
     return [value for value in strange() if value != right] + near
+
+
+def is_row_by_hand(value, many, least=None):
+    """Whether the value is a tuple of so many integers, none of them below the least one."""
+    if value.__class__ is not tuple or len(value) != many:
+        return False
+    if not all(part.__class__ is int and -10 ** 60 < part < 10 ** 60 for part in value):
+        return False
+    return least is None or all(part >= least for part in value)
+
+
+def no_people():
+    """Values that are no set of one to five names."""
+    def is_people(value):
+        if value.__class__ is not tuple or not 1 <= len(value) <= 5:
+            return False
+        if not all(part.__class__ is str and re.fullmatch("[a-z]{1,8}", part) for part in value):
+            return False
+        return list(value) == sorted(set(value))
+    near = [["a", "b"], {"a": 1}, ("b", "a"), ("a", "b", "c", "d", "e", "f"), ("a", "abcdefghi"), ("a", ""), ("a", 1), "ab", ("a", "B")]
+    return [value for value in strange() + near if not is_people(value)]
+
+
+def no_rows(many, least=None):
+    """Values that are no tuple of so many integers, although some are near to one."""
+    right = tuple(range(1, many + 1))
+    near = [list(right), right + (1,), right[1:], (right,), right[:-1] + (None,), right[:-1] + ("1",), right[:-1] + (True,)]
+    near += [right[:-1] + (10 ** 60,), right[:-1] + (-10 ** 60,), right[:-1] + ((1,),), right[:-1] + ([1],), dict(enumerate(right)), many]
+    near += [right[:-1] + (-1,), (-1,) + right[1:], (-10 ** 59,) * many, (False,) * many]
+    return [value for value in strange() + near if not is_row_by_hand(value, many, least)]
+
+
+def fair_by_hand(game):
+    """The fair shares, by the pays of all orders."""
+    told = [walked(game, order) for order in all_orders(game.people)]
+    return [Fraction(sum(row[at] for row in told), len(told)) for at in range(len(game.people))]
+
+
+def dividends_by_hand(game):
+    """The dividends of all groups but (), the least groups first."""
+    found = {}
+    for group in sorted(some_groups(game.people), key=len):
+        found[group] = game[group] - sum(found[part] for part in found if set(part) < set(group))
+    return found

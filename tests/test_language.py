@@ -12,6 +12,7 @@ BARRED = re.compile(
 )
 DUNDERS = (
     "__init__", "__eq__", "__repr__", "__str__", "__len__", "__iter__", "__getitem__", "__contains__", "__add__", "__mul__",
+    "__call__", "__enter__", "__exit__",
 )
 MODULE_LEVEL = (ast.ImportFrom, ast.FunctionDef, ast.ClassDef, ast.Assign, ast.Expr)
 NEVER = (

@@ -62,6 +62,11 @@ def check_person(game, value):
         raise UnknownName(value)
 
 
+def game_of(people, row):
+    """The game of these persons by the worths of all groups in their order, that of () the first one."""
+    return Game(people, {group: worth for group, worth in zip(groups_of(people), row) if group})
+
+
 class Game:
     """One to five persons, and a worth for each group of them."""
 

@@ -17,6 +17,12 @@ def fraction(above, below):
     return above // divisor, below // divisor
 
 
+def made_whole(fractions):
+    """The least integer of at least 1 by which all fractions become integers, and the tuple of these."""
+    many = common_multiple([below for _, below in fractions])
+    return many, tuple([above * many // below for above, below in fractions])
+
+
 def common_multiple(numbers):
     """The least integer of at least 1 that is a multiple of some integers of at least 1."""
     multiple = 1

@@ -30,6 +30,25 @@ def halves(row):
     return row[:1] + row[many + 1:], row[1:many + 1]
 
 
+def dividends_of(row):
+    """The dividends of all groups, by their worths: what each one has beyond the dividends of the groups in it."""
+    if len(row) == 1:
+        return list(row)
+    alone, joined = halves(row)
+    others = dividends_of(alone)
+    # The groups with the first person have as dividends those of what this person brings to the groups without it.
+    return others[:1] + dividends_of([more - one for one, more in zip(alone, joined)]) + others[1:]
+
+
+def worths_of(row):
+    """The worths of all groups, by their dividends."""
+    if len(row) == 1:
+        return list(row)
+    alone, joined = halves(row)
+    others = worths_of(alone)
+    return others[:1] + [one + more for one, more in zip(others, worths_of(joined))] + others[1:]
+
+
 def gaps_of(row):
     """The gaps of all tests, in the order of the tests, by the worths of all groups."""
     # A bit for each person tells each group by one number, by which groups are joined at once.

@@ -3,7 +3,7 @@
 from joinmore.base.games import check_game, check_person
 from joinmore.base.gaps import check_growing
 from joinmore.base.names import is_integer
-from joinmore.base.ratios import common_multiple, fraction
+from joinmore.base.ratios import common_multiple, fraction, made_whole
 from joinmore.base.rows import is_row, sums
 from joinmore.base.sets import without
 from joinmore.errors import InvalidOperation
@@ -28,9 +28,7 @@ def even(game, sizes):
 
 def even_sharing(game, sizes):
     """The least integer by which all even shares become integers, and the tuple of these."""
-    shares = even(game, sizes)
-    many = common_multiple([below for _, below in shares])
-    return many, tuple([above * many // below for above, below in shares])
+    return made_whole(even(game, sizes))
 
 
 def is_even(game, sizes, value):

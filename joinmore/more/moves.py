@@ -71,7 +71,7 @@ def is_way(game, one, other, value):
         return False
     spot = one
     for move, many in _runs(value):
-        if not _is_move(game, move) or room_of(game, spot, move[0], move[1]) < many:
+        if not _is_move(game, move) or room_of(game, 1, spot, move[0], move[1]) < many:
             return False
         spot = given(game, spot, move[0], move[1], many)
     return spot == other
@@ -95,7 +95,7 @@ def _check_both(game, one, other):
 def _check_all_kept(game, sharings):
     check_growing(game)
     for sharing in sharings:
-        check_kept(game, sharing)
+        check_kept(game, 1, sharing)
 
 
 def _is_move(game, value):
@@ -129,7 +129,7 @@ def _next_move(game, spot, other):
 def _most_for(game, spot, other, giver, getter):
     """How often a move leads nearer to the other sharing by kept ones."""
     apart = {person: abs(share - aim) for person, share, aim in zip(game.people, spot, other)}
-    return min(apart[giver], apart[getter], room_of(game, spot, giver, getter))
+    return min(apart[giver], apart[getter], room_of(game, 1, spot, giver, getter))
 
 
 def _runs(values):

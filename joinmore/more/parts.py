@@ -64,7 +64,7 @@ def is_short_paper(game, sharing, value):
 def _check_kept_sharing(game, sharing):
     check_sharing(game, sharing)
     check_growing(game)
-    check_kept(game, sharing)
+    check_kept(game, 1, sharing)
 
 
 def _does_split(game, group):

@@ -52,13 +52,13 @@ def room(game, sharing, giver, getter):
     """The greatest amount that the giver can give to the getter so that the sharing stays kept."""
     check_sharing(game, sharing)
     check_two(game, giver, getter)
-    check_kept(game, sharing)
-    return room_of(game, sharing, giver, getter)
+    check_kept(game, 1, sharing)
+    return room_of(game, 1, sharing, giver, getter)
 
 
-def room_of(game, sharing, giver, getter):
-    """The least slack of the groups with the giver and without the getter."""
-    slacks = slacks_of(game, 1, sharing)
+def room_of(game, factor, sharing, giver, getter):
+    """The least slack of the groups with the giver and without the getter, in a sharing of the game times a factor."""
+    slacks = slacks_of(game, factor, sharing)
     return min([left for group, left in zip(game.groups, slacks) if giver in group and getter not in group])
 
 
@@ -68,8 +68,8 @@ def gift(game, sharing, giver, getter, amount):
     check_two(game, giver, getter)
     if not is_integer(amount) or amount < 0:
         raise InvalidNumber(amount)
-    check_kept(game, sharing)
-    if amount > room_of(game, sharing, giver, getter):
+    check_kept(game, 1, sharing)
+    if amount > room_of(game, 1, sharing, giver, getter):
         raise InvalidOperation("some group would leave behind this gift")
     return given(game, sharing, giver, getter, amount)
 

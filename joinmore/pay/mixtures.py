@@ -18,15 +18,21 @@ def are_weights(game, value):
     return is_ascending([order for order, _ in value])
 
 
+def check_weights(game, value):
+    """Refuse what are no weights of orders of the game."""
+    if not are_weights(game, value):
+        raise InvalidWeights("these are no weights of orders of the game")
+
+
 def weight_of(game, weights):
     """The total of the weights."""
-    _check_weights(game, weights)
+    check_weights(game, weights)
     return _total_of(weights)
 
 
 def mix(game, weights):
     """The tuple that has, for each person, the sum of weight * pay."""
-    _check_weights(game, weights)
+    check_weights(game, weights)
     return _mix_of(game, weights)
 
 
@@ -43,11 +49,6 @@ def _is_pair(game, value):
     if not isinstance(value, tuple) or len(value) != 2:
         return False
     return is_order(game, value[0]) and is_whole(value[1]) and value[1] >= 1
-
-
-def _check_weights(game, value):
-    if not are_weights(game, value):
-        raise InvalidWeights("these are no weights of orders of the game")
 
 
 def _total_of(weights):

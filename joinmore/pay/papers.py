@@ -14,7 +14,7 @@ def paper(game, sharing):
     """A paper of a sharing: a mixture by which it is told, or a group that leaves it."""
     check_sharing(game, sharing)
     check_growing(game)
-    groups = leaving_of(game, sharing)
+    groups = leaving_of(game, 1, sharing)
     if groups:
         return ("leaves", groups[0])
     return ("mixture", weights_for(game, sharing))
@@ -28,7 +28,7 @@ def is_paper(game, sharing, value):
     word, shown = value
     if word == "mixture":
         return is_mixture(game, sharing, shown) and len(shown) <= len(game)
-    return word == "leaves" and shown in leaving_of(game, sharing)
+    return word == "leaves" and shown in leaving_of(game, 1, sharing)
 
 
 def weights_for(game, sharing):

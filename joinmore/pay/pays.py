@@ -13,11 +13,23 @@ def is_order(game, value):
     return all([person in value for person in game.people])
 
 
+def check_order(game, value):
+    """Refuse what is no order of the game."""
+    if not is_order(game, value):
+        raise InvalidOperation("this is no order of the game")
+
+
 def pay_of(game, order):
     """The pay of what is known to be an order."""
-    worths = [game.worth_of(order[:many]) for many in range(len(order) + 1)]
-    brought = {person: worths[at + 1] - worths[at] for at, person in enumerate(order)}
-    return tuple([brought[person] for person in game.people])
+    return pay_within(game, order, game.people)
+
+
+def pay_within(game, order, group):
+    """What each person of a group brings when these alone come, as the order tells."""
+    coming = [person for person in order if person in group]
+    worths = [game.worth_of(coming[:many]) for many in range(len(coming) + 1)]
+    brought = {person: worths[at + 1] - worths[at] for at, person in enumerate(coming)}
+    return tuple([brought[person] for person in group])
 
 
 def orders(game):
@@ -33,8 +45,7 @@ def orders(game):
 
 def pay(game, order):
     """What each person brings when the persons come in this order."""
-    if not is_order(game, order):
-        raise InvalidOperation("this is no order of the game")
+    check_order(game, order)
     return pay_of(game, order)
 
 

@@ -22,14 +22,14 @@ def slacks_of(game, factor, sharing):
     return [share - factor * worth for share, worth in zip(sums(sharing), game.row)]
 
 
-def leaving_of(game, sharing):
-    """The groups that leave what is known to be a sharing, ascending."""
-    return [group for group, left in zip(game.groups, slacks_of(game, 1, sharing)) if left < 0]
+def leaving_of(game, factor, sharing):
+    """The groups that leave what is known to be a sharing of the game times a factor, ascending."""
+    return [group for group, left in zip(game.groups, slacks_of(game, factor, sharing)) if left < 0]
 
 
-def check_kept(game, sharing):
-    """Refuse a sharing that some group leaves."""
-    groups = leaving_of(game, sharing)
+def check_kept(game, factor, sharing):
+    """Refuse a sharing of the game times a factor that some group leaves."""
+    groups = leaving_of(game, factor, sharing)
     if groups:
         raise Left(groups[0])
 
@@ -49,9 +49,9 @@ def slack(game, sharing, group):
 def leaving(game, sharing):
     """All groups that leave the sharing, ascending."""
     check_sharing(game, sharing)
-    return tuple(leaving_of(game, sharing))
+    return tuple(leaving_of(game, 1, sharing))
 
 
 def is_kept(game, value):
     """Whether the value is a sharing that no group leaves."""
-    return is_sharing(game, value) and not leaving_of(game, value)
+    return is_sharing(game, value) and not leaving_of(game, 1, value)

@@ -20,7 +20,7 @@ def left_orders(game):
     # In a growing game no group leaves a pay [0.13], so the pays need not be asked.
     if is_growing(game):
         return ()
-    return tuple([order for order in orders(game) if leaving_of(game, pay_of(game, order))])
+    return tuple([order for order in orders(game) if leaving_of(game, 1, pay_of(game, order))])
 
 
 def game_paper(game):
@@ -39,7 +39,7 @@ def is_game_paper(game, value):
     if not isinstance(value, tuple) or len(value) != 3:
         return False
     word, order, group = value
-    return word == "left" and is_order(game, order) and group in leaving_of(game, pay_of(game, order))
+    return word == "left" and is_order(game, order) and group in leaving_of(game, 1, pay_of(game, order))
 
 
 def are_kept_within(game, group):

@@ -1,0 +1,1 @@
+"""A desk: a game and a kept sharing while worths change."""
