@@ -401,3 +401,9 @@ def dividends_by_hand(game):
     for group in sorted(some_groups(game.people), key=len):
         found[group] = game[group] - sum(found[part] for part in found if set(part) < set(group))
     return found
+
+
+def no_factors(most=None):
+    """Values that are no integer from 1 to the greatest factor, or of any size."""
+    wrong = [0, -1, -7, True, False, None, "1", "", (1,), [1], {1: 1}, (), [], {}, 10 ** 60, 10 ** 99, -10 ** 60, PAIRS, MoreError("a")]
+    return wrong + ([most + 1, 10 * most, 10 ** 60 - 1] if most else [])

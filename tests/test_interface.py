@@ -4,6 +4,8 @@ import importlib
 import inspect
 import unittest
 
+from joinmore.base.games import Game
+from joinmore.desk.desk import Desk
 from tests.cases import PAIRS
 
 FUNCTIONS = {
@@ -47,6 +49,30 @@ FUNCTIONS = {
         "are_between": "low high value", "between_paper": "low high", "is_between_paper": "low high value",
         "span": "low high person", "split": "one other amounts", "is_split": "one other amounts value",
     },
+    "joinmore.more.fair": {
+        "fair": "game", "fair_sharing": "game", "dividends": "game", "by_dividends": "people dividends",
+        "told_back": "people sharings", "is_told_back": "game",
+    },
+    "joinmore.more.built": {
+        "estate": "people total claims", "queue": "people times urges", "airfield": "people costs", "tree": "people above costs",
+        "savings": "game", "flow": "people links",
+    },
+    "joinmore.text.formats": {
+        "write_game": "game", "write_sharing": "game sharing", "write_weights": "game weights", "write_value": "value",
+        "read_game": "text", "read_sharing": "game text", "read_weights": "game text", "read_value": "text",
+    },
+    "joinmore.more.beaten": {
+        "does_beat": "game factor better sharing group", "needy": "game sharing", "steady_paper": "game sharing",
+        "is_steady_paper": "game sharing value",
+    },
+    "joinmore.more.plans": {
+        "order_plan": "game order", "is_plan": "game factor value", "falls": "game factor plan", "mixed_plan": "game weights",
+        "plan_to": "game sharing", "fall_by": "game test", "plans_paper": "game", "is_plans_paper": "game value",
+    },
+    "joinmore.more.poorest": {
+        "poorest": "game factor sharing", "is_fairer": "game factor one other", "is_levelling": "game factor sharing value",
+        "levelling": "game factor sharing", "levelled": "game sharing", "is_levelled": "game sharing value",
+    },
 }
 CLASSES = {
     "joinmore.errors": {
@@ -62,6 +88,14 @@ CLASSES = {
             "__len__": "", "__eq__": None, "__str__": "", "__iter__": "",
         },
     },
+    "joinmore.desk.desk": {
+        "Desk": {
+            "__init__": "game", "put": "group worth", "hold": "", "release": "", "keep": "sharing", "forget": "",
+            "give": "giver getter amount", "paper": "", "bounds": "person", "rooms": "", "undo": "many", "redo": "many", "trial": "",
+            "during": "call", "twin": "", "__contains__": None, "__len__": "", "__eq__": None, "__str__": "",
+        },
+    },
+    "joinmore.text.shell": {"Shell": {"__init__": "game_text", "__call__": "line", "answer": "line", "desk": ""}},
 }
 
 
@@ -85,6 +119,23 @@ class Interface(unittest.TestCase):
                     found = list(inspect.signature(vars(told)[method]).parameters)[1:]
                     if parameters is not None:
                         self.assertEqual(found, parameters.split(), (name, method))
+
+    def test_properties(self):
+        for told, names in ((Game, ("people", "groups")), (Desk, ("game", "sharing", "held"))):
+            for name in names:
+                self.assertIsInstance(vars(told)[name], property)
+
+    def test_many_is_a_keyword(self):
+        for name in ("undo", "redo"):
+            many = inspect.signature(getattr(Desk, name)).parameters["many"]
+            self.assertEqual((many.kind, many.default), (inspect.Parameter.KEYWORD_ONLY, 1))
+
+    def test_constants(self):
+        told = (
+            ("base.names", "MAX_LETTERS", 8), ("base.games", "MAX_PEOPLE", 5), ("base.games", "MAX_WORTH", 10 ** 9), ("more.moves", "MAX_KEPT", 2000),
+        )
+        for place, name, value in told:
+            self.assertEqual(getattr(importlib.import_module("joinmore." + place), name), value)
 
     def test_additive_is_a_class_method(self):
         told = vars(PAIRS.__class__)["additive"]

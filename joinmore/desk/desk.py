@@ -76,8 +76,7 @@ class Desk:
         return isinstance(other, Desk) and self._now[0] == other._now[0]
 
     def __str__(self):
-        game = self.game
-        return f"desk of {len(game)} persons, {game[game.people]} in all"
+        return f"desk of {len(self.game)} persons, {self.game[self.game.people]} in all"
 
     def put(self, group, worth):
         """Give a group another worth."""

@@ -13,7 +13,7 @@ def fair(game):
     """The fair shares of all persons, as fractions."""
     check_game(game)
     # The persons of a group share its dividend equally [14.2], so no order has to be walked.
-    multiple = common_multiple(range(1, len(game) + 1))
+    multiple = common_multiple(list(range(1, len(game) + 1)))
     parts = [(group, told * multiple // len(group)) for group, told in _dividends(game) if group]
     shares = [sum([part for group, part in parts if person in group]) for person in game.people]
     return tuple([fraction(share, multiple) for share in shares])
