@@ -240,6 +240,19 @@ class Levelled(unittest.TestCase):
             for put in (value, (1, value), (value, (("c", "a", 2),)), (1, (value,)), (1, (("c", "a", 2), value))):
                 self.assertIs(is_levelled(PAIRS, (0, 2, 4), put), walk_by_hand(PAIRS, (0, 2, 4), put) is None)
 
+    def test_many_gifts(self):
+        game = by_size(("a", "b"), [0, 0, 200000])
+        for many in (99999, 100000, 100001):
+            self.assertIs(is_levelled(game, (200000, 0), (1, (("a", "b", 1),) * many)), many == 100000)
+        game = by_size(("a", "b", "c"), [0, 0, 0, 30000])
+        for pair in (("a", "b", 1), ("a", "c", 1)), (("a", "c", 1), ("a", "b", 1)):
+            for many in (9999, 10000, 10001):
+                self.assertIs(is_levelled(game, (30000, 0, 0), (1, pair * many)), many == 10000)
+        # Gifts of different integers between the same two persons are as one of their sum.
+        for row, told in (((5, 3), True), ((3, 5), True), ((7, 1), True), ((8,), True), ((9, -1), False), ((8, 0), False), ((5, 2), False), ((5, 4), False), ((16,), False)):
+            gifts = tuple(("a", "b", amount) for amount in row)
+            self.assertIs(is_levelled(by_size(("a", "b"), [0, 0, 16]), (16, 0), (1, gifts)), told)
+
     def test_factors(self):
         seen = set()
         for game in growing_games() + small_growing() + [by_size(PEOPLE[3], [0, 0, 0, 0, 5]), by_size(PEOPLE[-1], [0] * 5 + [7])]:

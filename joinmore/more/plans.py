@@ -98,11 +98,18 @@ def _plan_of(game, order):
 
 
 def _mixed(game, weights):
-    plans = [(_plan_of(game, order), weight) for order, weight in weights]
-    return {
-        group: tuple([sum([plan[group][at] * weight for plan, weight in plans]) for at in range(len(group))])
-        for group in game.groups if group
-    }
+    return {group: _mixed_within(game, weights, group) for group in game.groups if group}
+
+
+def _mixed_within(game, weights, group):
+    """The mixture of what a group's persons bring in the orders."""
+    # Many orders can be one and the same for a group, so their weights are put together first.
+    together = {}
+    for order, weight in weights:
+        coming = tuple([person for person in order if person in group])
+        together[coming] = together.get(coming, 0) + weight
+    rows = [[share * together[coming] for share in pay_within(game, coming, group)] for coming in together]
+    return tuple([sum([row[at] for row in rows]) for at in range(len(group))])
 
 
 def _falls(game, plan):

@@ -24,7 +24,7 @@ def is_fairer(game, factor, one, other):
 def is_levelling(game, factor, sharing, value):
     """Whether the value is a levelling gift, and the sharing behind it is kept."""
     _check_all(game, factor, (sharing,))
-    return _is_levelling(game, factor, sharing, value)
+    return _is_gift(game, value) and _does_level(game, factor, sharing, value[0], value[1], value[2])
 
 
 def levelling(game, factor, sharing):
@@ -60,10 +60,12 @@ def is_levelled(game, sharing, value):
     many, gifts = value
     if not is_integer(many) or many != factor or not isinstance(gifts, tuple):
         return False
-    for told in gifts:
-        if not _is_levelling(game, factor, spot, told):
+    if not all([_is_gift(game, told) for told in gifts]):
+        return False
+    for giver, getter, amount in _runs(gifts):
+        if not _does_level(game, factor, spot, giver, getter, amount):
             return False
-        spot = given(game, spot, told[0], told[1], told[2])
+        spot = given(game, spot, giver, getter, amount)
     return spot == aim
 
 
@@ -99,28 +101,42 @@ def _by_person(game, sharing):
     return {person: share for person, share in zip(game.people, sharing)}
 
 
-def _is_levelling(game, factor, sharing, value):
+def _is_gift(game, value):
+    """Whether the value is a triple of two different persons and an integer of at least 1."""
     if not isinstance(value, tuple) or len(value) != 3:
         return False
     giver, getter, amount = value
-    if giver not in game or getter not in game or giver == getter or not is_integer(amount) or amount < 1:
-        return False
+    return giver in game and getter in game and giver != getter and is_integer(amount) and amount >= 1
+
+
+def _does_level(game, factor, sharing, giver, getter, amount):
+    """Whether a gift leaves the giver not less than the getter, and the sharing kept."""
     shares = _by_person(game, sharing)
     if shares[giver] - amount < shares[getter] + amount:
         return False
     return amount <= room_of(game, factor, sharing, giver, getter)
 
 
+def _runs(gifts):
+    """The gifts, those in a row between the same two persons as one: it is a levelling gift exactly if each one is."""
+    found = []
+    for giver, getter, amount in gifts:
+        if found and found[-1][:2] == [giver, getter]:
+            found[-1][2] = found[-1][2] + amount
+        else:
+            found.append([giver, getter, amount])
+    return found
+
+
 def _gift_towards(game, factor, spot, aim):
     """A levelling gift of somebody who has more than in the even sharing to somebody who has less."""
     shares, aims = _by_person(game, spot), _by_person(game, aim)
     giver = [person for person in game.people if shares[person] > aims[person]][0]
-    # By [10.1] such a getter could give back in the even sharing, and so has there at most as much as the giver: the
-    # gift is a levelling one. With the same giver until it has its even share, few gifts are enough.
-    for getter in game.people:
-        if shares[getter] < aims[getter] <= aims[giver]:
-            most = min(shares[giver] - aims[giver], aims[getter] - shares[getter])
-            amount = min(most, room_of(game, factor, spot, giver, getter))
-            if amount > 0:
-                return giver, getter, amount
-    return None
+    # By [10.1] some getter could give back in the even sharing, and so has there at most as much as the giver: the gift
+    # is a levelling one. With the same giver until it has its even share, few gifts are enough.
+    getters = [person for person in game.people if shares[person] < aims[person] <= aims[giver]]
+    limits = [
+        (getter, shares[giver] - aims[giver], aims[getter] - shares[getter], room_of(game, factor, spot, giver, getter))
+        for getter in getters
+    ]
+    return [(giver, getter, min(more, less, free)) for getter, more, less, free in limits if free > 0][0]
