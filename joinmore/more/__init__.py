@@ -1,1 +1,1 @@
-"""What is built on games and kept sharings: moves, even and fair shares, parts, built games, plans and levelling gifts."""
+"""What is built on games and kept sharings: moves, even and fair shares, parts, built games, plans and gifts."""
