@@ -316,6 +316,16 @@ class Values(unittest.TestCase):
             self.assertEqual(index_of(read_value, "( " * deep + ")" + " )" * (deep - 1)), 0)
             self.assertEqual(index_of(read_value, "{ =a " * (deep - 1) + "( )" + " }" * (deep - 1)), 0)
         self.assertEqual(read_value("{ =a " * 7 + "( )" + " }" * 7), alike_dicts(7))
+        # Eight, and nine, the last one of them empty.
+        for last, text in (((), "( )"), ({}, "{ }")):
+            for wrap, begin, end in ((lambda value: (value,), "( ", " )"), (lambda value: {"a": value}, "{ =a ", " }"), (lambda value: {1: 2, "a": value}, "{ =a ", " 1 2 }")):
+                value = last
+                for _ in range(7):
+                    value = wrap(value)
+                self.assertEqual(write_value(value), begin * 7 + text + end * 7)
+                self.assertEqual(read_value(begin * 7 + text + end * 7), value)
+                self.assertIs(raised(write_value, wrap(value)).__class__, InvalidOperation)
+                self.assertEqual(index_of(read_value, begin * 8 + text + end * 8), 0)
         # The key of a dict is in the dict.
         self.assertEqual(read_value("{ " + "( " * 7 + ") " * 7 + "1 }"), {nested_empty(7): 1})
         self.assertEqual(index_of(read_value, "{ " + "( " * 8 + ") " * 8 + "1 }"), 0)

@@ -257,6 +257,18 @@ class Kept(unittest.TestCase):
             else:
                 self.assertEqual(len(kept_sharings(beside)), many)
 
+    def test_the_limit_for_three_and_more_persons(self):
+        # One person has as many shares that are kept, and the third one, and further ones, just one.
+        for people in (("a", "b", "c"), ("b", "c", "a"), ("a", "c", "b"), ("a", "b", "c", "d", "e"), ("c", "e", "a", "b", "d")):
+            alone = tuple(sorted(people[2:]))
+            beside = Game.additive(alone, (5, -7, 0)[:len(alone)])
+            for more, many in ((1999, 2000), (2000, 2001)):
+                game = by_size(tuple(sorted(people[:2])), [0, 0, more]).beside(beside)
+                if many > 2000:
+                    self.assertEqual(self.most(game), 2000)
+                else:
+                    self.assertEqual(len(kept_sharings(game)), 2000)
+
     def most(self, game):
         with self.assertRaises(TooMany) as caught:
             kept_sharings(game)

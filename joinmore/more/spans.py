@@ -6,16 +6,14 @@ Kept sharings are found so, too. The worths are told by a row for all groups of 
 from joinmore.base.rows import halves
 
 
-def span_of(low, high):
-    """The least and the greatest integer that the first person can have."""
-    low_without, low_with = halves(low)
-    high_without, high_with = halves(high)
-    least = max([worth - other for worth, other in zip(low_with, high_without)])
-    greatest = min([worth - other for worth, other in zip(high_with, low_without)])
-    return least, greatest
+def _least(low, high):
+    """The least integer that the first person can have."""
+    _, low_with = halves(low)
+    high_without, _ = halves(high)
+    return max([worth - other for worth, other in zip(low_with, high_without)])
 
 
-def behind(low, high, amount):
+def _behind(low, high, amount):
     """The rows of worths for the other persons, when the first one has this amount."""
     low_without, low_with = halves(low)
     high_without, high_with = halves(high)
@@ -28,8 +26,8 @@ def first_between(low, high):
     """The first amounts between, in Python's order."""
     amounts = ()
     while len(low) > 1:
-        least, _ = span_of(low, high)
-        low, high = behind(low, high, least)
+        least = _least(low, high)
+        low, high = _behind(low, high, least)
         amounts = amounts + (least,)
     return amounts
 

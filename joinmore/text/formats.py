@@ -6,7 +6,7 @@ from joinmore.base.sets import groups_of
 from joinmore.errors import InvalidOperation, ParseError
 from joinmore.pay.mixtures import are_weights, check_weights
 from joinmore.pay.sharings import check_sharing, is_sharing
-from joinmore.text.values import MAX_DEPTH, is_key, value_of
+from joinmore.text.values import MAX_DEPTH, value_of
 from joinmore.text.words import are_names, is_number, line_of, words_of
 
 
@@ -129,7 +129,7 @@ def _words_for(value, depth):
         return ["=" + value]
     if depth > 0 and isinstance(value, tuple):
         return ["("] + _all_words(value, depth - 1) + [")"]
-    if depth > 0 and isinstance(value, dict) and all([is_key(key) for key in value]):
+    if depth > 0 and isinstance(value, dict):
         parts = [part for key in sorted(list(value), key=_shown) for part in (key, value[key])]
         return ["{"] + _all_words(parts, depth - 1) + ["}"]
     raise InvalidOperation("this value has no text")

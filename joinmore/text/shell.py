@@ -208,7 +208,7 @@ def _fits(shape, form):
     if not form.endswith("+"):
         return shape == form
     least = form[:-1]
-    return shape.startswith(least) and shape == least + least[-1] * (len(shape) - len(least))
+    return shape == least + least[-1] * (len(shape) - len(least))
 
 
 def _many(numbers):

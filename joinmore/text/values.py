@@ -49,7 +49,7 @@ def _closed(word, parts):
     if word == ")":
         return (tuple(parts),)
     keys = parts[::2]
-    if len(parts) % 2 == 1 or not all([is_key(key) for key in keys]):
+    if len(parts) % 2 == 1 or not all([_is_key(key) for key in keys]):
         return ()
     made = {key: value for key, value in zip(keys, parts[1::2])}
     # Of equal keys, such as 1 and True, a dict has only one.
@@ -58,8 +58,8 @@ def _closed(word, parts):
     return (made,)
 
 
-def is_key(value):
+def _is_key(value):
     """Whether the value has no dict in it."""
     if isinstance(value, tuple):
-        return all([is_key(part) for part in value])
+        return all([_is_key(part) for part in value])
     return not isinstance(value, dict)
